@@ -20,7 +20,7 @@ var (
 	plainName   = regexp.MustCompile(`^[a-z_][a-z_0-9]*`)
 	plainDigits = regexp.MustCompile(`^[0-9]+`)
 	plainText   = regexp.MustCompile(`^"(?:[ !#-\[\]-~]|\\["\\])*`) // but its end
-	plainMark   = regexp.MustCompile(`^(?:==|!=|<=|>=|&&|\|\||[(){}\[\]:;,=<>+\-*/%!])`)
+	plainMark   = regexp.MustCompile(`^(?:==|!=|<=|>=|&&|\|\||[(){}\[\]:;,=<>+\-*/%!.])`)
 	plainEscape = regexp.MustCompile(`\\(["\\])`)
 	onlyGap     = regexp.MustCompile(`^(?:[ \n\t]|#[^\n]*(?:\n|$))*$`)
 )
@@ -177,7 +177,7 @@ func TestEachByteAlone(t *testing.T) {
 			wantTokens(t, s, name(s, 0), end(1))
 		case strings.Contains("0123456789", s):
 			wantTokens(t, s, num(s, b-'0', 0), end(1))
-		case strings.Contains("(){}[]:;,=<>+-*/%!", s):
+		case strings.Contains("(){}[]:;,=<>+-*/%!.", s):
 			wantTokens(t, s, mark(s, 0), end(1))
 		default: // a quote is a text without an end
 			wantFault(t, s, 0, api.ErrToken)
@@ -191,7 +191,7 @@ func TestEachByteBetween(t *testing.T) {
 		for _, around := range [][2]string{{"x ", " y"}, {"x", "y"}, {"1", "2"}, {"(", ")"}, {"\"a\"", "\"b\""}, {"=", "="}, {"# ", "\nx"}, {"", "\n#"}} {
 			wantAlike(t, around[0]+s+around[1])
 		}
-		if strings.Contains("AZ.$&'?@^`|~\r\v\f\x00\x7f\x80\xa0\xff", s) {
+		if strings.Contains("AZ$&'?@^`|~\r\v\f\x00\x7f\x80\xa0\xff", s) {
 			wantFault(t, "x "+s+" y", 2, api.ErrToken)
 		}
 	}
@@ -248,7 +248,8 @@ func TestNames(t *testing.T) {
 	wantFault(t, "( "+long+"0", 2, api.ErrLong)
 	wantFault(t, " "+times("a", 9000), 1, api.ErrLong)
 	wantFault(t, "aB", 1, api.ErrToken)
-	wantFault(t, "abc.d", 3, api.ErrToken)
+	wantFault(t, "abc$d", 3, api.ErrToken)
+	wantTokens(t, "abc.d", name("abc", 0), mark(".", 3), name("d", 4), end(5))
 	wantFault(t, long+"xB", 0, api.ErrLong)
 }
 
@@ -264,6 +265,8 @@ func TestNumbers(t *testing.T) {
 	wantFault(t, "18446744073709551621", 0, api.ErrLong)
 	wantFault(t, "x "+times("9", 9000), 2, api.ErrLong)
 	wantFault(t, "x 1"+times("0", 9000), 2, api.ErrLong)
+	wantTokens(t, "1.50", num("1", 1, 0), mark(".", 1), num("50", 50, 2), end(4))
+	wantFault(t, "1.05", 2, api.ErrToken) // what is behind the mark is a number of its own
 }
 
 func TestNoughtsAhead(t *testing.T) {
@@ -315,7 +318,7 @@ func TestTextsAtFault(t *testing.T) {
 }
 
 func TestMarks(t *testing.T) {
-	all := strings.Fields("== != <= >= && || ( ) { } [ ] : ; , = < > + - * / % !")
+	all := strings.Fields("== != <= >= && || ( ) { } [ ] : ; , = < > + - * / % ! .")
 	for _, m := range all {
 		wantTokens(t, m, mark(m, 0), end(len(m)))
 		wantTokens(t, "a"+m+"1", name("a", 0), mark(m, 1), num("1", 1, 1+len(m)), end(2+len(m)))
@@ -332,6 +335,7 @@ func TestMarks(t *testing.T) {
 	wantTokens(t, "=<=>=", mark("=", 0), mark("<=", 1), mark(">=", 3), end(5))
 	wantTokens(t, "= =", mark("=", 0), mark("=", 2), end(3))
 	wantTokens(t, "&&||", mark("&&", 0), mark("||", 2), end(4))
+	wantTokens(t, "..=.", mark(".", 0), mark(".", 1), mark("=", 2), mark(".", 3), end(4))
 	for _, c := range []string{"&", "|"} {
 		wantFault(t, c, 0, api.ErrToken)
 		wantFault(t, "a "+c+" b", 2, api.ErrToken)
@@ -398,9 +402,9 @@ func TestFirstFault(t *testing.T) {
 
 // pieces are what random texts are made of; the first row's have no fault in themselves.
 func pieces() (good, bad []string) {
-	good = strings.Fields("a b _ x1 let version abcdefghijklmn_0 0 1 9 12 907 9223372036854775807 == != <= >= && || ( ) { } [ ] : ; , = < > + - * / % !")
+	good = strings.Fields("a b _ x1 let version abcdefghijklmn_0 0 1 9 12 907 9223372036854775807 == != <= >= && || ( ) { } [ ] : ; , = < > + - * / % ! .")
 	good = append(good, `""`, `"a b"`, `"\""`, `"\\"`, `"#\\\""`, `"`+times("y", 256)+`"`, `"`+times(`\"`, 256)+`"`, "#\n", "# a\"\n", "#\x00\xff\n", " ", "\n", "\t", "  \t\n ")
-	bad = []string{"00", "07", "9223372036854775808", times("0", 25), times("7", 25), "abcdefghijklmn_01", `"`, `"a`, `\`, `"\`, "\"\n\"", "\"\xff\"", `"\a"`, "&", "|", ".", "A", "é", "\r", "\x00", "\x7f", "#", "\"" + times("y", 257) + "\"", "\"" + times("y", 257)}
+	bad = []string{"00", "07", "9223372036854775808", times("0", 25), times("7", 25), "abcdefghijklmn_01", `"`, `"a`, `\`, `"\`, "\"\n\"", "\"\xff\"", `"\a"`, "&", "|", "$", "A", "é", "\r", "\x00", "\x7f", "#", "\"" + times("y", 257) + "\"", "\"" + times("y", 257)}
 	return good, bad
 }
 
@@ -438,7 +442,7 @@ func TestRandomTexts(t *testing.T) {
 
 func TestRandomBytes(t *testing.T) {
 	r := newRand(2)
-	few := "aZ_09\"\\#&|=!<> \n\t\x00\xff"
+	few := "aZ_09\"\\#&|=!<>. \n\t\x00\xff"
 	for range 100000 {
 		b := make([]byte, r.IntN(12))
 		for i := range b {
@@ -531,7 +535,7 @@ func TestWord(t *testing.T) {
 			t.Errorf("%q isn't a name", s)
 		}
 	}
-	for _, s := range []string{"", " ", "1a", "0", "a b", " a", "a ", "A", "aB", "é", "aé", "a-b", "a\n", "a#", `"a"`, "abcdefghijklmn_01", times("a", 1<<16)} {
+	for _, s := range []string{"", " ", "1a", "0", "a b", " a", "a ", "A", "aB", "é", "aé", "a-b", ".", "a.b", "a\n", "a#", `"a"`, "abcdefghijklmn_01", times("a", 1<<16)} {
 		if Word(s) {
 			t.Errorf("%s is a name", short(s))
 		}
