@@ -12,6 +12,7 @@ import (
 	"quern/opt"
 	"quern/sem"
 	"quern/types"
+	"quern/vm"
 )
 
 // wantModule asks for P14.1, and answers the module.
@@ -29,11 +30,11 @@ func wantModule(t *testing.T, p api.Prog) api.Module {
 	return m
 }
 
-// wantSame asks for P14.2 with one fuel, and answers what the run answers.
+// wantSame asks for P14.2 with one fuel, by the machine itself, and answers what the run answers.
 func wantSame(t *testing.T, p api.Prog, m api.Module, states []api.Value, c api.Command, fuel int) ([]api.Value, api.Outcome) {
 	t.Helper()
 	want, wantOut := sem.Call(p, states, c, fuel)
-	out, o := plainRun(m, states, sem.Handler(p, c), c.Args, fuel)
+	out, o := vm.Run(m, states, sem.Handler(p, c), c.Args, fuel)
 	if !allAlike(out, want) || o.Err != wantOut.Err || o.Fuel != wantOut.Fuel || !alike(o.Value, wantOut.Value) {
 		t.Fatalf("%+v: %s(%s) of %s with %d: %s; not %s: %+v", p, c.Name, shownAll(c.Args), shownAll(states), fuel, told(out, o), told(want, wantOut), m)
 	}
@@ -81,7 +82,7 @@ func TestExamples(t *testing.T) {
 	if len(m.Funcs) != 1 || m.Funcs[0].Params != 0 {
 		t.Errorf("%+v", m)
 	}
-	if out, o := plainRun(m, nil, 0, nil, 0); told(out, o) != " -> 7 / 0" {
+	if out, o := vm.Run(m, nil, 0, nil, 0); told(out, o) != " -> 7 / 0" {
 		t.Errorf("%s", told(out, o))
 	}
 	add := "state n: int; on h(x: int): int { set n = n + x; for i to 3 { set n = n + 1; } ret n; }"
